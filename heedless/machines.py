@@ -93,6 +93,12 @@ def refuse_heeding(rows, letters):
                 raise Heeds(stand, letters[one], letters[other])
 
 
+def refuse_counts(counts, size):
+    """BadCounts where there are not so many counts, or one is below nought."""
+    if len(counts) != size or any([many < 0 for many in counts]):
+        raise BadCounts()
+
+
 def lap_from(rows, place, stand):
     """The stands to which one letter leads, over and over, until one is met again.
 
@@ -157,8 +163,7 @@ class Machine:
 
     def moved(self, counts, *, stand=0):
         """The stand to which counts lead from a stand, and what is sent on the way."""
-        if len(counts) != len(self.letter_names) or any([many < 0 for many in counts]):
-            raise BadCounts()
+        refuse_counts(counts, len(self.letter_names))
         self.refuse_stand(stand)
         sent = [0 for outlet in self.outlet_names]
         for place, many in enumerate(counts):

@@ -36,6 +36,19 @@ def times(one, other):
     return part(one[0] * other[0], one[1] * other[1])
 
 
+def divided(one, other):
+    """The first part divided by the second, which is not nought."""
+    return part(one[0] * other[1], one[1] * other[0])
+
+
+def total(line):
+    """The sum of all parts of a list."""
+    summed = part(0)
+    for one in line:
+        summed = plus(summed, one)
+    return summed
+
+
 def below(one, other):
     """Whether the first part is less than the second."""
     return less(one, other)[0] < 0

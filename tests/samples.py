@@ -2,9 +2,11 @@
 
 import itertools
 import random
+import unittest
 from fractions import Fraction
 
 from heedless.machines import Machine
+from heedless.webs import Web
 
 THIRDS = [
     [(1, (0,)), (2, (0,))],
@@ -18,6 +20,14 @@ LEFT = [
     [(2, (1, 0)), (1, (2, 0))],
     [(1, (3, 0)), (2, (2, 0))],
 ]
+
+
+class RefusalCase(unittest.TestCase):
+    def refused(self, kind, fields, call, *args, **named):
+        with self.assertRaises(kind) as caught:
+            call(*args, **named)
+        self.assertIs(type(caught.exception), kind)
+        self.assertEqual(vars(caught.exception), {"word": kind.__name__, **fields})
 
 
 def rule_number(rule, number):
@@ -146,3 +156,85 @@ def doubled(rows, place, stand, many):
         leap = [(leap[after][0], [have + more for have, more in zip(sends, leap[after][1])]) for after, sends in leap]
         many //= 2
     return stand, sent
+
+
+def renumbered(rows, order):
+    """Rows with the stands numbered anew: order[k] is the old number of the new stand k."""
+    places = {old: new for new, old in enumerate(order)}
+    return [[(places[after], sends) for after, sends in rows[old]] for old in order]
+
+
+def come_to(rows):
+    """The stands as they are come to: the first one, then by rising stands, from each by the letters."""
+    order = [0]
+    for stand in order:
+        for after, sends in rows[stand]:
+            if after not in order:
+                order.append(after)
+    return order
+
+
+def blown_up(chance, rows, idle):
+    """Rows that do the same as others while an idle machine goes along, numbered in any order."""
+    pairs = [(0, 0)]
+    wide = []
+    for stand, other in pairs:
+        row = []
+        for (after, sends), (beside, nothing) in zip(rows[stand], idle[other]):
+            if (after, beside) not in pairs:
+                pairs.append((after, beside))
+            row.append((pairs.index((after, beside)), sends))
+        wide.append(row)
+    behind = list(range(1, len(wide)))
+    chance.shuffle(behind)
+    return renumbered(wide, [0] + behind)
+
+
+def idle_rows(chance, letters):
+    """Rows that send nothing: a ring, or stands of which the first ones don't come again."""
+    if chance.random() < 0.5:
+        size = chance.randint(2, 5)
+        return ring_rows(size, [1] + [chance.randint(0, size) for k in range(letters - 1)], [[]] * letters, [[]] * size)
+    size = chance.randint(2, 5)
+    steps = [1] + [chance.randint(0, 2) for k in range(letters - 1)]
+    return [[(min(stand + step, size - 1), ()) for step in steps] for stand in range(size)]
+
+
+def unlike_pairs(rows):
+    """All pairs of stands from which some counts send unlike, found by going over all pairs time and again."""
+    unlike = {(one, other) for one, other in itertools.product(range(len(rows)), repeat=2)
+              if [sends for after, sends in rows[one]] != [sends for after, sends in rows[other]]}
+    before = -1
+    while before != len(unlike):
+        before = len(unlike)
+        unlike |= {(one, other) for one, other in itertools.product(range(len(rows)), repeat=2)
+                   if any((first[0], second[0]) in unlike for first, second in zip(rows[one], rows[other]))}
+    return unlike
+
+
+def counts_of(letters, many):
+    """All counts of so many letters in all, rising."""
+    if letters == 1:
+        return [[many]]
+    return [[first] + rest for first in range(many + 1) for rest in counts_of(letters - 1, many - first)]
+
+
+def made_webs(many):
+    """Webs of any machines with threads of all sorts; the same ones at each run."""
+    chance = random.Random(19)
+    webs = []
+    while len(webs) < many:
+        names = chance.sample(["m", "n", "ab", "zz", "k"], chance.randint(1, 4))
+        machines = [(name, chance.choice(MADE)) for name in names]
+        threads = []
+        for name, machine in machines:
+            for outlet in machine.outlets():
+                goal, target = chance.choice(machines)
+                threads.append(chance.choice([(name, outlet, goal, chance.choice(target.letters())),
+                                              (name, outlet, goal, target.letters()[0]),
+                                              (name, outlet, chance.choice(["in", "out"])), None]))
+        threads = [thread for thread in threads if thread is not None]
+        chance.shuffle(threads)
+        if sum(len(machine.letters()) for name, machine in machines) <= 8:
+            webs.append(Web(machines, threads))
+    return webs

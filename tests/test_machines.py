@@ -8,7 +8,7 @@ import samples
 from heedless import machines
 from heedless.errors import BadCounts, BadName, BadRow, BadSize, Heeds, NoLetter, NoStand, Unreached
 from heedless.machines import Machine
-from samples import LEFT, MADE, THIRDS
+from samples import LEFT, MADE, THIRDS, RefusalCase
 
 
 def thirds():
@@ -18,14 +18,6 @@ def thirds():
 def still(letters, outlets=0, stands=1):
     """Rows in which each stand leads on by each letter, round and round, and sends nothing."""
     return [[((stand + 1) % stands, (0,) * outlets) for k in range(letters)] for stand in range(stands)]
-
-
-class RefusalCase(unittest.TestCase):
-    def refused(self, kind, fields, call, *args, **named):
-        with self.assertRaises(kind) as caught:
-            call(*args, **named)
-        self.assertIs(type(caught.exception), kind)
-        self.assertEqual(vars(caught.exception), {"word": kind.__name__, **fields})
 
 
 class TellingTest(unittest.TestCase):
