@@ -40,10 +40,14 @@ def common_multiple(numbers):
     return common
 
 
+def wholes(line, common):
+    """Parts, all times a number that makes them whole."""
+    return [over * (common // under) for over, under in line]
+
+
 def made_whole(line):
     """Parts, all times the least number that makes them whole."""
-    common = common_multiple([under for over, under in line])
-    return [over * (common // under) for over, under in line]
+    return wholes(line, common_multiple([under for over, under in line]))
 
 
 def unit_row(size, place):
@@ -69,6 +73,25 @@ def cleared(rows, at):
     return [lead if place == at else row_less(row, row[at], lead) for place, row in enumerate(rows)]
 
 
+def cleared_through(square):
+    """The unit rows less the square, cleared column by column, and the place where that can't go on, or None."""
+    # Off their own places the unit rows less the square have nothing above nought. So they
+    # have an inverse with nothing below nought just where each row in its turn, the columns
+    # ahead being cleared, has more than nought at its own place.
+    rows = rows_less_square(square)
+    for at in range(len(rows)):
+        if not below(part(0), rows[at][at]):
+            return rows, at
+        rows = cleared(rows, at)
+    return rows, None
+
+
+def inverse_of(web):
+    """The rows of the inverse of the unit rows less the square, or None where some work never ends."""
+    rows, stuck = cleared_through(web.square())
+    return [row[len(rows):] for row in rows] if stuck is None else None
+
+
 def counts_from(web, rows, at):
     """Counts that show that some work never ends, where the row at a place has no more than nought there."""
     # For one of that kind these parts of the kinds ahead of it come out even, and that kind
@@ -80,14 +103,10 @@ def counts_from(web, rows, at):
 
 def ending(web):
     """("ends", weights) where all work ends, or ("on", counts) where some work never does."""
-    # Off their own places the unit rows less the square have nothing above nought. So they
-    # have an inverse with nothing below nought just where each row in its turn, the columns
-    # ahead being cleared, has more than nought at its own place. The sums of the inverse's
-    # columns are weights: times the unit rows less the square they come to 1 for each kind.
-    rows = rows_less_square(web.square())
+    rows, stuck = cleared_through(web.square())
+    if stuck is not None:
+        return "on", counts_from(web, rows, stuck)
+    # The sums of the inverse's columns are weights: times the unit rows less the square
+    # they come to 1 for each kind.
     size = len(rows)
-    for at in range(size):
-        if not below(part(0), rows[at][at]):
-            return "on", counts_from(web, rows, at)
-        rows = cleared(rows, at)
     return "ends", made_whole([total([row[size + at] for row in rows]) for at in range(size)])

@@ -1,6 +1,6 @@
 """Machines with letters, outlets and stands, which don't heed the order of their letters."""
 
-from heedless.errors import BadCounts, BadName, BadRow, BadSize, Heeds, NoLetter, NoStand, Unreached
+from heedless.errors import BadCounts, BadName, BadRow, BadSize, Heeds, NoLetter, NoStand, TooWide, Unreached
 
 LETTERS = 3
 STANDS = 60
@@ -59,6 +59,27 @@ def reached(rows, first):
                 found.append(after)
         at += 1
     return seen
+
+
+def explored(first, step, ways, most):
+    """Rows whose stands are all things come to from a first one, numbered as they are come to.
+
+    A step tells of a thing and a way the next thing and what is sent. TooWide where
+    there are more than most.
+    """
+    found = [first]
+    places = {first: 0}
+    rows = []
+    while len(rows) < len(found):
+        pairs = [step(found[len(rows)], way) for way in ways]
+        for after, sends in pairs:
+            if after not in places:
+                places[after] = len(found)
+                found.append(after)
+        if len(found) > most:
+            raise TooWide()
+        rows.append([(places[after], sends) for after, sends in pairs])
+    return rows
 
 
 def refuse_unreached(rows):

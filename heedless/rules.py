@@ -2,7 +2,7 @@
 
 from heedless.errors import BadCounts, BadSize, TooWide
 from heedless.likes import least_rows
-from heedless.machines import LETTERS, STANDS, Machine, added, refuse_counts
+from heedless.machines import LETTERS, STANDS, Machine, added, explored, refuse_counts
 from heedless.texts import Reader
 
 RULES = 12
@@ -144,20 +144,8 @@ def step_by(rules, numbers, letter):
 
 def rows_by(rules):
     """Rows of which each stand is a list of the rules' numbers; TooWide where there are too many."""
-    letters = letters_of(rules)
-    found = [tuple([0 for rule in rules])]
-    places = {found[0]: 0}
-    rows = []
-    while len(rows) < len(found):
-        steps = [step_by(rules, found[len(rows)], letter) for letter in letters]
-        for numbers, sends in steps:
-            if numbers not in places:
-                places[numbers] = len(found)
-                found.append(numbers)
-        if len(found) > LISTS:
-            raise TooWide()
-        rows.append([(places[numbers], sends) for numbers, sends in steps])
-    return rows
+    first = tuple([0 for rule in rules])
+    return explored(first, lambda numbers, letter: step_by(rules, numbers, letter), letters_of(rules), LISTS)
 
 
 def machine_by(rules):

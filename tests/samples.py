@@ -5,7 +5,9 @@ import random
 import unittest
 from fractions import Fraction
 
+from heedless.errors import TooWide
 from heedless.machines import Machine
+from heedless.rules import machine_by, read_rules
 from heedless.webs import Web
 
 THIRDS = [
@@ -164,14 +166,20 @@ def renumbered(rows, order):
     return [[(places[after], sends) for after, sends in rows[old]] for old in order]
 
 
-def come_to(rows):
+def come_to(rows, first=0):
     """The stands as they are come to: the first one, then by rising stands, from each by the letters."""
-    order = [0]
+    order = [first]
     for stand in order:
         for after, sends in rows[stand]:
             if after not in order:
                 order.append(after)
     return order
+
+
+def begun_at(machine, stand):
+    """The machine with another first stand, and such stands as can be come to from there."""
+    rows = machine.rows()
+    return Machine(machine.letters(), machine.outlets(), renumbered(rows, come_to(rows, stand)))
 
 
 def blown_up(chance, rows, idle):
@@ -238,3 +246,166 @@ def made_webs(many):
         if sum(len(machine.letters()) for name, machine in machines) <= 8:
             webs.append(Web(machines, threads))
     return webs
+
+
+def ring(*texts):
+    """Machines with letter a and outlet c by rules, each one's outlet leading to the next one's letter."""
+    names = "mnop"[:len(texts)]
+    machines = [(name, machine_by(read_rules(text))) for name, text in zip(names, texts)]
+    return Web(machines, [(name, "c", names[(at + 1) % len(names)], "a") for at, name in enumerate(names)])
+
+
+def threaded(chance, machines):
+    """A web in which each outlet leads to some machine's letter."""
+    threads = []
+    for name, machine in machines:
+        for outlet in machine.outlets():
+            goal, target = chance.choice(machines)
+            threads.append((name, outlet, goal, chance.choice(target.letters())))
+    return Web(machines, threads)
+
+
+def heavy_web(chance, high):
+    """Machines of one stand each, all outlets with threads among them, with sends up to a bound."""
+    sizes = chance.choice([(1,), (2,), (3,), (1, 1), (2, 3), (2, 2, 2), (3, 3, 2), (2, 2, 2, 2)])
+    machines = []
+    for at, size in enumerate(sizes):
+        row = [(0, tuple(chance.choice([0, 0, 0, chance.randint(0, high)]) for k in range(3))) for k in range(size)]
+        machines.append(("mnop"[at], Machine(list("abc")[:size], list("cde"), [row])))
+    return threaded(chance, machines)
+
+
+def calm_text(chance, letters, outlets):
+    """Rules by which few letters go out of many."""
+    texts = []
+    for outlet in outlets:
+        weights = ", ".join(letters)
+        texts.append(f"each {chance.randint(2, 6)} after {chance.randint(1, 4)} with {weights} gives {outlet}")
+    return "; ".join(texts)
+
+
+def calm_web(chance):
+    """Machines by rules, so that rates are fractions and rounds are more than 1; some of these webs go on."""
+    machines = []
+    for name in "mnop"[:chance.randint(1, 4)]:
+        text = calm_text(chance, "ab"[:chance.randint(1, 2)], "cd"[:chance.randint(1, 2)])
+        machines.append((name, machine_by(read_rules(text))))
+    return threaded(chance, machines)
+
+
+def every(size, many=1, outlets="c"):
+    """A machine with letter a that sends so many at its first outlet at every so manieth letter."""
+    sends = (many,) + (0,) * (len(outlets) - 1)
+    rows = [[((stand + 1) % size, sends if stand == size - 1 else (0,) * len(outlets))] for stand in range(size)]
+    return Machine(["a"], list(outlets), rows)
+
+
+class SlowRun:
+    """A run by dicts, turn by turn: another way than the program's."""
+
+    def __init__(self, web):
+        self.web = web
+        self.stands = {name: 0 for name in web.names()}
+        self.waiting = {kind: 0 for kind in web.kinds()}
+        self.tally = {kind: 0 for kind in web.kinds()}
+        self.handed = {kind: 0 for kind in web.kinds()}
+        self.sent = {door: 0 for door in web.doors()}
+
+    def hand(self, kind, many):
+        self.waiting[kind] += many
+        self.handed[kind] += many
+
+    def turn(self, kind):
+        name, letter = kind
+        machine = self.web.machine(name)
+        self.waiting[kind] -= 1
+        self.tally[kind] += 1
+        self.stands[name], sends = machine.step(self.stands[name], letter)
+        for outlet, many in zip(machine.outlets(), sends):
+            goal = self.web.goal(name, outlet)
+            if goal in self.waiting:
+                self.waiting[goal] += many
+            elif goal is not None:
+                self.sent[goal] += many
+
+    def there(self):
+        return [kind for kind in self.web.kinds() if self.waiting[kind]]
+
+    def work(self, most, row=()):
+        for done in range(most):
+            if not self.there():
+                return done
+            self.turn(self.there()[row[done] % len(self.there())] if done < len(row) else self.there()[0])
+        return most
+
+    def told(self):
+        """What a run is to tell, as told_of."""
+        books = [list(book.values()) for book in (self.stands, self.waiting, self.tally, self.handed, self.sent)]
+        wait = sum(books[1])
+        return books + [wait == 0, wait, f"Run({wait} waiting, {sum(books[2])} taken)"]
+
+
+def told_of(run):
+    """All that a run tells of itself."""
+    return [run.stands(), run.waiting(), run.tally(), run.handed(), run.sent(), run.resting(), len(run), repr(run)]
+
+
+def hand_all(run, counts):
+    """Hands counts by kinds, of any size."""
+    for (name, letter), many in zip(run.web().kinds(), counts):
+        while many > 0:
+            run.hand(name, letter, many=min(many, 999))
+            many -= min(many, 999)
+    return run
+
+
+def work_all(run, most=400000):
+    """Works till rest, and tells how many turns that took."""
+    turns = 0
+    while not run.resting():
+        turns += run.work()
+        if turns > most:
+            raise AssertionError("no rest")
+    return turns
+
+
+def books_hold(run):
+    """Whether what waits and was sent is what square, tally and purses tell."""
+    web = run.web()
+    tally = run.tally()
+    for wait, given, took, row, purse in zip(run.waiting(), run.handed(), tally, web.square(), run.purse()):
+        if wait != given - took + sum(as_fraction(rate) * many for rate, many in zip(row, tally)) + as_fraction(purse):
+            return False
+    for sent, row, purse in zip(run.sent(), web.door_rates(), run.door_purse()):
+        if sent != sum(as_fraction(rate) * many for rate, many in zip(row, tally)) + as_fraction(purse):
+            return False
+    return len(run.purse()) == len(web) and len(run.door_purse()) == len(web.doors())
+
+
+def mixed_webs(chance, many):
+    """Webs of all sorts, with rings, of which some go on."""
+    makers = [lambda: calm_web(chance), lambda: heavy_web(chance, chance.choice([1, 2, 999999])),
+              lambda: doors_web(chance)]
+    return made_webs(many // 4) + [chance.choice(makers)() for turn in range(many - many // 4)]
+
+
+def doors_web(chance):
+    """Machines by rules with one to three letters, outlets leading to letters and doors, in rings that end."""
+    machines = []
+    for name in "mnop"[:chance.randint(1, 4)]:
+        letters = "abc"[:chance.choice([1, 1, 2, 2, 3]) if name != "p" else 1]
+        texts = [calm_text(chance, letters[:1], "c"), calm_text(chance, letters, "d")]
+        bound = f"each 1 with {letters[0]} gives c at most {chance.randint(1, 4)}"
+        try:
+            machines.append((name, machine_by(read_rules("; ".join(texts[:chance.randint(1, 2)] + [bound])))))
+        except TooWide:
+            return doors_web(chance)
+    if sum(len(machine.letters()) for name, machine in machines) > 8:
+        return doors_web(chance)
+    threads = []
+    for name, machine in machines:
+        for outlet in machine.outlets():
+            goal, target = chance.choice(machines)
+            threads.append(chance.choice([(name, outlet, goal, chance.choice(target.letters())),
+                                          (name, outlet, chance.choice(["in", "out", "z"]))]))
+    return Web(machines, threads)

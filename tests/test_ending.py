@@ -8,54 +8,8 @@ from fractions import Fraction
 from heedless.ending import counts_hold, ending, weights_hold
 from heedless.machines import Machine
 from heedless.order import round_of
-from heedless.rules import machine_by, read_rules
 from heedless.webs import Web
-from samples import as_fraction, made_webs
-
-
-def ring(*texts):
-    """Machines with letter a and outlet c by rules, each one's outlet leading to the next one's letter."""
-    names = "mnop"[:len(texts)]
-    machines = [(name, machine_by(read_rules(text))) for name, text in zip(names, texts)]
-    return Web(machines, [(name, "c", names[(at + 1) % len(names)], "a") for at, name in enumerate(names)])
-
-
-def threaded(chance, machines):
-    """A web in which each outlet leads to some machine's letter."""
-    threads = []
-    for name, machine in machines:
-        for outlet in machine.outlets():
-            goal, target = chance.choice(machines)
-            threads.append((name, outlet, goal, chance.choice(target.letters())))
-    return Web(machines, threads)
-
-
-def heavy_web(chance, high):
-    """Machines of one stand each, all outlets with threads among them, with sends up to a bound."""
-    sizes = chance.choice([(1,), (2,), (3,), (1, 1), (2, 3), (2, 2, 2), (3, 3, 2), (2, 2, 2, 2)])
-    machines = []
-    for at, size in enumerate(sizes):
-        row = [(0, tuple(chance.choice([0, 0, 0, chance.randint(0, high)]) for k in range(3))) for k in range(size)]
-        machines.append(("mnop"[at], Machine(list("abc")[:size], list("cde"), [row])))
-    return threaded(chance, machines)
-
-
-def calm_text(chance, letters, outlets):
-    """Rules by which few letters go out of many."""
-    texts = []
-    for outlet in outlets:
-        weights = ", ".join(letters)
-        texts.append(f"each {chance.randint(2, 6)} after {chance.randint(1, 4)} with {weights} gives {outlet}")
-    return "; ".join(texts)
-
-
-def calm_web(chance):
-    """Machines by rules, so that rates are fractions and rounds are more than 1; some of these webs go on."""
-    machines = []
-    for name in "mnop"[:chance.randint(1, 4)]:
-        text = calm_text(chance, "ab"[:chance.randint(1, 2)], "cd"[:chance.randint(1, 2)])
-        machines.append((name, machine_by(read_rules(text))))
-    return threaded(chance, machines)
+from samples import as_fraction, calm_web, heavy_web, made_webs, ring
 
 
 def all_webs():

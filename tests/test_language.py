@@ -21,6 +21,8 @@ DOUBLE = {"__init__", "__eq__", "__repr__", "__str__", "__len__"}
 BARRED = re.compile(r"\b(type|typing|typing_extensions|enum|Enum|IntEnum|StrEnum|Flag|IntFlag|Generic|Protocol|ABC"
                     r"|ABCMeta|namedtuple|NamedTuple|TypedDict|TYPE_CHECKING|abstractmethod)\b"
                     r"|dataclass|overload|contextmanager")
+CHANGES = set("append clear extend insert pop remove reverse setdefault update sort add discard".split())
+AT_ONCE = {"range", "zip", "enumerate", "reversed", "items", "keys", "values"}
 NAMES_BARRED = set("""register mro elements open input version_info with_traceback add_note attrgetter breakpoint
     builtins compile copyright credits delattr dir eval exec exit gc getattr globals hasattr help id importlib license
     locals methodcaller os quit setattr super type vars sys format format_map args""".split())
@@ -65,6 +67,17 @@ def class_names():
             if isinstance(node, ast.Attribute) and not isinstance(node.ctx, ast.Load):
                 attributes.add(node.attr)
     return methods, attributes
+
+
+def gone_over(node):
+    """What a loop goes over, straight or through enumerate, zip and the like."""
+    if isinstance(node, ast.Call) and isinstance(node.func, ast.Name) and node.func.id in AT_ONCE:
+        return {name for each in node.args for name in gone_over(each)}
+    if isinstance(node, ast.Call) and isinstance(node.func, ast.Attribute) and node.func.attr in AT_ONCE:
+        return gone_over(node.func.value)
+    if isinstance(node, ast.Subscript):
+        return {ast.unparse(node)} | gone_over(node.value)
+    return {ast.unparse(node)}
 
 
 class FilesTest(unittest.TestCase):
@@ -175,6 +188,44 @@ class SyntaxTest(unittest.TestCase):
                     self.assertEqual(node.decorator_list, [], (path, node.name))
                     if node.name.startswith("__"):
                         self.assertIn(node.name, DOUBLE, path)
+
+    def test_double_underscore_methods_assign_nothing(self):
+        for path, tree in TREES.items():
+            for node in ast.walk(tree):
+                if isinstance(node, ast.FunctionDef) and node.name in DOUBLE - {"__init__"}:
+                    self.assertEqual([type(each) for each in node.body], [ast.Return], (path, node.name))
+                    told = node.body[0].value
+                    if node.name == "__len__":
+                        self.assertEqual(ast.unparse(told)[:4], "len(", path)
+                    if node.name == "__repr__":
+                        self.assertIsInstance(told, ast.JoinedStr, path)
+
+    def test_ranges_and_the_like_are_gone_over_at_once(self):
+        for path, tree in TREES.items():
+            for node in ast.walk(tree):
+                if isinstance(node, (ast.Assign, ast.Return)) and isinstance(node.value, ast.Call):
+                    called = node.value.func
+                    name = called.id if isinstance(called, ast.Name) else called.attr
+                    self.assertNotIn(name, AT_ONCE, (path, node.lineno))
+
+    def test_what_is_gone_over_is_not_changed(self):
+        for path, tree in TREES.items():
+            for node in ast.walk(tree):
+                if isinstance(node, ast.For):
+                    over = gone_over(node.iter)
+                    for each in ast.walk(ast.Module(node.body, [])):
+                        if isinstance(each, ast.Subscript) and not isinstance(each.ctx, ast.Load):
+                            self.assertNotIn(ast.unparse(each.value), over, (path, node.lineno))
+                        if isinstance(each, ast.Call) and isinstance(each.func, ast.Attribute):
+                            if each.func.attr in CHANGES:
+                                self.assertNotIn(ast.unparse(each.func.value), over, (path, node.lineno))
+
+    def test_defaults_are_plain(self):
+        for path, tree in TREES.items():
+            for node in ast.walk(tree):
+                if isinstance(node, ast.arguments):
+                    for told in node.defaults + [each for each in node.kw_defaults if each is not None]:
+                        self.assertIsInstance(told, (ast.Constant, ast.Name, ast.Tuple), (path, ast.unparse(told)))
 
     def test_errors_are_made_where_they_are_raised(self):
         for path, tree in TREES.items():
